@@ -13,6 +13,15 @@ class Statement:
         self.crack = crack
 
 
+class Standing:
+    """How a part stands on a day: its source, None if there is none, its crack, and what it bears then."""
+
+    def __init__(self, source, crack, bears):
+        self.source = source
+        self.crack = crack
+        self.bears = bears
+
+
 def statements(entries, n):
     """What those entries say that count by the first n entries, in the order in which they were made."""
     said = {}
@@ -32,15 +41,27 @@ def put_right(statement, crack):
     return Statement(statement.number, statement.part, statement.day, crack)
 
 
-def source_on(said, part, day):
-    """The statement that's the source of the part numbered so on that day, None if there is none."""
-    source = None
+def sources_on(said, count, day):
+    """Of each of so many parts the statement that's its source on that day, None if there is none."""
+    sources = [None] * count
     for statement in said:
-        if statement.part == part and statement.day <= day:
-            # Not only a later day: of several of one day the one made last is to be taken.
-            if source is None or statement.day >= source.day:
-                source = statement
-    return source
+        source = sources[statement.part]
+        # Not only a later day: of several of one day the one made last is to be taken.
+        if statement.day <= day and (source is None or statement.day >= source.day):
+            sources[statement.part] = statement
+    return sources
+
+
+def standings(parts, said, day):
+    """How each of the parts stands on that day."""
+    sources = sources_on(said, len(parts), day)
+    return [standing(part, source, day) for part, source in zip(parts, sources)]
+
+
+def standing(part, source, day):
+    """How the part stands on that day, with that source."""
+    crack = crack_on(part, source, day)
+    return Standing(source, crack, borne(part, crack))
 
 
 def crack_on(part, source, day):
@@ -62,10 +83,4 @@ def borne(part, crack):
 
 def limit_on(parts, said, day):
     """What the part bears on that day that bears least."""
-    return min([borne_on(parts, number, said, day) for number in range(len(parts))])
-
-
-def borne_on(parts, number, said, day):
-    """What the part numbered so bears on that day."""
-    part = parts[number]
-    return borne(part, crack_on(part, source_on(said, number, day), day))
+    return min([each.bears for each in standings(parts, said, day)])

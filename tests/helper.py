@@ -39,6 +39,34 @@ def known(part, on, n):
     return [7, part, on, n]
 
 
+def limit(on, n):
+    return [8, on, n]
+
+
+def posted(on):
+    return [9, on]
+
+
+def wrong(first, last):
+    return [10, first, last]
+
+
+def falls(much):
+    return [11, much]
+
+
+def due(days):
+    return [12, days]
+
+
+def changes(part, on):
+    return [13, part, on]
+
+
+def state():
+    return [14]
+
+
 def ask(*calls):
     """The answer to each call, asked in one list as the document lets it: 1 to 80 calls, 5100 numbers."""
     assert 1 <= len(calls) <= 80, len(calls)
@@ -72,7 +100,7 @@ class Case(unittest.TestCase):
 
 
 def probes_of(before, answered):
-    """Calls whose answers tell what the bridge holds: each part, today, how many entries and postings there are."""
+    """Calls whose answers tell what the bridge holds: all of it by state, then by what follows from it."""
     entries = 0
     for call, answer in zip(before, answered):
         if call[0] == 0 and answer[0] >= 0:
@@ -80,7 +108,7 @@ def probes_of(before, answered):
         elif call[0] in (2, 3, 4, 5) and answer[0] >= 0:
             entries += 1
     room = 79 - len(before)
-    probes = [day(1), post(), found(0, 0, 7), known(0, 100000, entries), known(0, 0, entries)]
+    probes = [state(), day(1), post(), found(0, 0, 7), known(0, 100000, entries), known(0, 0, entries)]
     for n in sorted({entries, entries // 2, 0}, reverse=True):
         for part in range(12):
             probes.append(known(part, 5, n))

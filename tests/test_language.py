@@ -22,6 +22,8 @@ METHODS = set(
     "append clear copy count endswith extend find get index insert isalnum isalpha isdigit islower isspace isupper "
     "items join keys ljust lower lstrip partition pop remove replace reverse rfind rjust rpartition rsplit rstrip "
     "setdefault split splitlines startswith strip update upper values zfill bit_length".split())
+WALKED = ("zip", "enumerate", "reversed", "range", "items", "keys", "values")
+WALKERS = ("list", "tuple", "dict", "sorted", "sum", "any", "all", "enumerate", "zip", "min", "max")
 WORDS_LEFT_OUT = re.compile(
     r"\b(type|typing|typing_extensions|enum|Enum|IntEnum|StrEnum|Flag|IntFlag|Generic|Protocol|ABC|ABCMeta|"
     r"namedtuple|NamedTuple|TypedDict|TYPE_CHECKING|abstractmethod)\b|dataclass|overload|contextmanager")
@@ -106,6 +108,76 @@ class Language(unittest.TestCase):
             if isinstance(node, ast.FunctionDef):
                 handed = node.args
                 self.assertFalse(handed.vararg or handed.kwarg or handed.kwonlyargs or handed.posonlyargs, node.name)
+
+
+    def test_the_top_of_a_file_and_the_body_of_a_class(self):
+        for path, source in sources().items():
+            for row, node in enumerate(ast.parse(source).body):
+                let = isinstance(node, (ast.ImportFrom, ast.FunctionDef, ast.ClassDef, ast.Assign))
+                self.assertTrue(let or (row == 0 and is_text(node)), (path, node.lineno))
+        for name, node in self.each_node(ast.ClassDef):
+            for row, inner in enumerate(node.body):
+                let = isinstance(inner, ast.FunctionDef)
+                self.assertTrue(let or (row == 0 and is_text(inner)), (name, inner.lineno))
+
+    def test_no_annotation(self):
+        for name, node in self.each_node(ast.FunctionDef, ast.arg):
+            told = node.returns if isinstance(node, ast.FunctionDef) else node.annotation
+            self.assertIsNone(told, (name, node.lineno))
+
+    def test_no_two_files_draw_from_one_another(self):
+        drawn = {path.stem: set() for path in sources()}
+        for name, node in self.each_node(ast.ImportFrom):
+            drawn[name.removesuffix(".py")].add(node.module.split(".")[1])
+        while drawn:
+            free = [stem for stem in drawn if not drawn[stem] & set(drawn)]
+            self.assertTrue(free, drawn)
+            for stem in free:
+                del drawn[stem]
+
+    def test_small_forms(self):
+        for name, node in self.each_node(ast.ListComp):
+            self.assertEqual(len(node.generators), 1, (name, node.lineno))
+            self.assertLessEqual(len(node.generators[0].ifs), 1, (name, node.lineno))
+        for name, node in self.each_node(ast.Compare):
+            if any(isinstance(op, (ast.Is, ast.IsNot)) for op in node.ops):
+                self.assertIsInstance(node.comparators[-1], ast.Constant, (name, node.lineno))
+                self.assertIn(node.comparators[-1].value, (None, True, False), (name, node.lineno))
+        for name, node in self.each_node(ast.Constant):
+            self.assertFalse(isinstance(node.value, str) and "%" in node.value, (name, node.lineno))
+        for name, node in self.each_node(ast.Pow):
+            self.fail(name)
+
+    def test_what_is_made_to_be_walked_is_walked_at_once(self):
+        for path, source in sources().items():
+            tree = ast.parse(source)
+            walked = [node.iter for node in ast.walk(tree) if isinstance(node, (ast.For, ast.comprehension))]
+            for node in ast.walk(tree):
+                if isinstance(node, ast.Call) and called(node) in WALKERS:
+                    walked += node.args[:1]
+            for node in ast.walk(tree):
+                if isinstance(node, ast.Call) and called(node) in WALKED:
+                    self.assertTrue(any(node is each for each in walked), (path, node.lineno))
+
+    def test_values_of_objects(self):
+        own_of_python = {name for kind in (str, int, list, tuple, dict, set, bytes) for name in dir(kind)}
+        values = {node.attr for name, node in self.each_node(ast.Attribute) if isinstance(node.ctx, ast.Store)}
+        methods = set()
+        for name, node in self.each_node(ast.ClassDef):
+            methods |= {inner.name for inner in node.body if isinstance(inner, ast.FunctionDef)}
+        self.assertEqual(values & own_of_python, set())
+        self.assertEqual(methods & own_of_python, {"__init__"})
+        self.assertEqual(values & methods, set())
+
+
+def is_text(node):
+    """Whether the statement is a text by itself."""
+    return isinstance(node, ast.Expr) and isinstance(node.value, ast.Constant) and isinstance(node.value.value, str)
+
+
+def called(node):
+    """The name of what's called."""
+    return node.func.id if isinstance(node.func, ast.Name) else node.func.attr
 
 
 def bound_at_the_top(tree):
